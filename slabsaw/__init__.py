@@ -1,0 +1,1 @@
+"""Guillotine cutting of slabs: the most valuable pattern."""
