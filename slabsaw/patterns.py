@@ -1,32 +1,47 @@
-"""Best patterns and their encoding."""
+"""Patterns of a piece: the best one, and whether a given one fits."""
 
+from slabsaw.steps import HORIZONTAL_CUT, STONE, VERTICAL_CUT, WASTE, parts_behind
 from slabsaw.worths import horizontal_cut_worth, max_worths, vertical_cut_worth
 
-WASTE = 0
-STONE = 1
-VERTICAL_CUT = 2
-HORIZONTAL_CUT = 3
+
+def fits(kinds, steps, width, height):
+    """Whether the pattern with these steps is one for a piece of this size."""
+    pieces = [(width, height)]
+    for step in steps:
+        piece = pieces.pop()
+        if not step_fits(kinds, step, piece[0], piece[1]):
+            return False
+        pieces.extend(parts_behind(step, piece[0], piece[1]))
+    return True
 
 
-def best_encoding(kinds, width, height):
-    """The encoding of the best pattern of a piece of this size."""
+def step_fits(kinds, step, x, y):
+    """Whether the piece can be thrown away, be the stone or be cut as the step tells, whatever becomes of its parts."""
+    if step[0] == STONE:
+        k = step[1]
+        return k < len(kinds) and kinds[k].matches(x, y)
+    if step[0] == VERTICAL_CUT:
+        return step[1] < x
+    if step[0] == HORIZONTAL_CUT:
+        return step[1] < y
+    return True
+
+
+def best_steps(kinds, width, height):
+    """The steps of the best pattern of a piece of this size."""
     worths = max_worths(kinds, width, height)
-    encoding = []
+    steps = []
     pieces = [(width, height)]
     while len(pieces) > 0:
         piece = pieces.pop()
-        x = piece[0]
-        y = piece[1]
-        step = best_step(kinds, worths, x, y)
-        encoding.extend(step)
-        # The last piece in the list is the next one, and the first part is encoded ahead of the second.
-        for part in reversed(parts_behind(step, x, y)):
-            pieces.append(part)
-    return encoding
+        step = best_step(kinds, worths, piece[0], piece[1])
+        steps.append(step)
+        pieces.extend(parts_behind(step, piece[0], piece[1]))
+    return steps
 
 
 def best_step(kinds, worths, x, y):
-    """The beginning of the best pattern's encoding, up to where the parts of a cut begin."""
+    """The first step of the piece's best pattern."""
     if worths[(x, y)] == 0:
         return [WASTE]
     k = first_best_kind(kinds, worths, x, y)
@@ -36,17 +51,6 @@ def best_step(kinds, worths, x, y):
     if c is not None:
         return [VERTICAL_CUT, c]
     return [HORIZONTAL_CUT, first_best_horizontal_cut(worths, x, y)]
-
-
-def parts_behind(step, x, y):
-    """The two parts of a piece behind a cut; none behind waste or a stone."""
-    if step[0] == VERTICAL_CUT:
-        c = step[1]
-        return [(c, y), (x - c, y)]
-    if step[0] == HORIZONTAL_CUT:
-        c = step[1]
-        return [(x, c), (x, y - c)]
-    return []
 
 
 def first_best_kind(kinds, worths, x, y):

@@ -1,10 +1,11 @@
 """The instance: a slab, the kinds of stones, and the calls on them."""
 
-from slabsaw.codes import NO_SUCH_KIND, OUT_OF_RANGE, TOO_MANY_KINDS
-from slabsaw.limits import MOST_KINDS, is_may_turn, is_side, is_value
-from slabsaw.patterns import best_encoding
-from slabsaw.stones import Kind
-from slabsaw.worths import max_worth
+from slabsaw.codes import NO_FIT, NO_SUCH_KIND, OUT_OF_RANGE, TOO_MANY_KINDS
+from slabsaw.limits import LONGEST_SIDE, MOST_KINDS, is_may_turn, is_side, is_value
+from slabsaw.patterns import best_steps, fits
+from slabsaw.steps import encoding_of, steps_of, stones_in
+from slabsaw.stones import Kind, area_together, counts_by_kind, value_together
+from slabsaw.worths import max_worth, max_worths
 
 
 class Saw:
@@ -86,7 +87,72 @@ class Saw:
 
     def best_pattern(self):
         """Answers the maximum value of the slab and the encoding of its best pattern."""
-        return self.max_value() + best_encoding(self.kinds, self.width, self.height)
+        return self.max_value() + encoding_of(best_steps(self.kinds, self.width, self.height))
+
+    def stone_counts(self):
+        """Answers how many stones the best pattern of the slab has, and how many of each kind."""
+        stones = self.best_stones()
+        return [len(stones)] + counts_by_kind(self.kinds, stones)
+
+    def waste_area(self):
+        """Answers how much of the slab is no stone in its best pattern."""
+        return [self.width * self.height - area_together(self.kinds, self.best_stones())]
+
+    def check_pattern(self, pattern):
+        """Answers the value of this encoded pattern for the slab, and how many stones of each kind it has."""
+        # The whole list is read ahead of any look at the slab: a wrong form anywhere comes before what doesn't fit.
+        steps = steps_of(pattern)
+        if steps is None:
+            return [OUT_OF_RANGE]
+        if not fits(self.kinds, steps, self.width, self.height):
+            return [NO_FIT]
+        stones = stones_in(steps)
+        return [value_together(self.kinds, stones)] + counts_by_kind(self.kinds, stones)
+
+    def values_for_height(self, y):
+        """Answers the slab's width and the maximum value of a piece of height y for each width up to it."""
+        if not 1 <= y <= self.height:
+            return [OUT_OF_RANGE]
+        worths = max_worths(self.kinds, self.width, y)
+        return [self.width] + [worths[(x, y)] for x in range(1, self.width + 1)]
+
+    def max_value_without(self, k):
+        """Answers what the slab's maximum value would be if kind k were removed."""
+        if not self.has_kind(k):
+            return [NO_SUCH_KIND]
+        others = [kind for j, kind in enumerate(self.kinds) if j != k]
+        return [max_worth(others, self.width, self.height)]
+
+    def max_value_if_value(self, k, value):
+        """Answers what the slab's maximum value would be if kind k had this value."""
+        if not self.has_kind(k):
+            return [NO_SUCH_KIND]
+        if not is_value(value):
+            return [OUT_OF_RANGE]
+        kinds = list(self.kinds)
+        kinds[k] = kinds[k].with_value(value)
+        return [max_worth(kinds, self.width, self.height)]
+
+    def min_height(self, value):
+        """Answers the smallest height at which a slab as wide as this one is worth at least this value."""
+        if value < 0:
+            return [OUT_OF_RANGE]
+        worths = max_worths(self.kinds, self.width, LONGEST_SIDE)
+        for height in range(1, LONGEST_SIDE + 1):
+            if worths[(self.width, height)] >= value:
+                return [height]
+        return [NO_FIT]
+
+    def describe(self):
+        """Answers how many kinds there are, the slab's size, and all that makes each kind."""
+        answer = [len(self.kinds), self.width, self.height]
+        for kind in self.kinds:
+            answer.extend([kind.width, kind.height, kind.value, kind.may_turn])
+        return answer
+
+    def best_stones(self):
+        """The numbers of the kinds of the stones in the slab's best pattern."""
+        return stones_in(best_steps(self.kinds, self.width, self.height))
 
     def has_kind(self, k):
         """Whether there is a kind k."""

@@ -1,4 +1,4 @@
-"""A kind of stones."""
+"""Kinds of stones, and what several stones come to."""
 
 
 class Kind:
@@ -15,3 +15,22 @@ class Kind:
         if x == self.width and y == self.height:
             return True
         return self.may_turn == 1 and x == self.height and y == self.width
+
+    def with_value(self, value):
+        """A kind of its own that differs from this one in its value alone."""
+        return Kind(self.width, self.height, value, self.may_turn)
+
+
+def counts_by_kind(kinds, stones):
+    """For each kind, how many of these stones, told by the numbers of their kinds, are of it."""
+    return [stones.count(k) for k in range(len(kinds))]
+
+
+def value_together(kinds, stones):
+    """The values of these stones, told by the numbers of their kinds, added up."""
+    return sum([kinds[k].value for k in stones])
+
+
+def area_together(kinds, stones):
+    """The areas of these stones, told by the numbers of their kinds, added up."""
+    return sum([kinds[k].width * kinds[k].height for k in stones])

@@ -6,10 +6,12 @@ NO_INSTANCE = [-11]
 NO_SUCH_KIND = [-2]
 OUT_OF_RANGE = [-22]
 TOO_MANY_KINDS = [-28]
+NO_FIT = [-33]
 
 LOWEST = -2147483648
 HIGHEST = 2147483647
 MOST_CALLS = 60
+LONGEST_ROW = 70
 
 WRONG_SIDES = (LOWEST, -1, 0, 10, 1000, HIGHEST)
 WRONG_VALUES = (LOWEST, -1, 1000, HIGHEST)
@@ -50,6 +52,40 @@ def max_value_of(x, y):
 
 def best_pattern():
     return (8,)
+
+
+def stone_counts():
+    return (9,)
+
+
+def waste_area():
+    return (10,)
+
+
+def check_pattern(pattern):
+    if len(pattern) > LONGEST_ROW:
+        raise AssertionError("a test hands in a longer row than the document allows")
+    return (11, len(pattern), *pattern)
+
+
+def values_for_height(y):
+    return (12, y)
+
+
+def max_value_without(k):
+    return (13, k)
+
+
+def max_value_if_value(k, value):
+    return (14, k, value)
+
+
+def min_height(value):
+    return (15, value)
+
+
+def describe():
+    return (16,)
 
 
 def flat(calls):
@@ -111,28 +147,10 @@ def worths_of(kinds, width, height):
     return worths
 
 
-def count_after(calls):
-    """How many kinds there are behind these calls."""
-    answer = last(*calls, remove_kind(0))
-    return 0 if answer == NO_SUCH_KIND else answer[0] + 1
-
-
-def kind_after(calls, k, count):
-    """Kind k behind these calls: width, height, value, may_turn."""
-    value = last(*calls, set_value(k, 0))[0]
-    may_turn = last(*calls, set_may_turn(k, 0))[0]
-    # Once k alone is worth something, a piece is worth something as soon as it is as wide and as high as k.
-    alone = [set_slab(9, 9), set_may_turn(k, 0)] + [set_value(j, 1 if j == k else 0) for j in range(count)]
-    widths = [max_value_of(x, 9) for x in range(1, 10)]
-    heights = [max_value_of(9, y) for y in range(1, 10)]
-    worths = [part[0] for part in ask(*calls, *alone, *widths, *heights)[-18:]]
-    width = 1 + worths[:9].count(0)
-    height = 1 + worths[9:].count(0)
-    return (width, height, value, may_turn)
-
-
 def state_after(*calls):
-    """The slab's width and height and the list of kinds behind these calls, found out by more calls."""
-    count = count_after(calls)
-    slab = last(*calls, set_slab(1, 1))
-    return (slab[1], slab[2], [kind_after(calls, k, count) for k in range(count)])
+    """The slab's width and height and the list of kinds behind these calls, as describe tells them."""
+    told = last(*calls, describe())
+    kinds = [tuple(told[place:place + 4]) for place in range(3, len(told), 4)]
+    if len(kinds) != told[0] or (kinds and len(kinds[-1]) != 4):
+        raise AssertionError(f"not {told[0]} kinds: {told}")
+    return (told[1], told[2], kinds)

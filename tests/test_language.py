@@ -1,6 +1,7 @@
 """The package's files keep to the small part of Python that ../shared/LANGUAGE.md tells, as far as is checked here."""
 
 import ast
+import builtins
 import pathlib
 import re
 import unittest
@@ -57,6 +58,23 @@ def bound_names(tree):
     return names
 
 
+def top_names(tree):
+    """Each name that a file binds at its top, as often as it does so, without what it imports."""
+    names = [node.name for node in tree.body if isinstance(node, (ast.FunctionDef, ast.ClassDef))]
+    for node in tree.body:
+        if isinstance(node, ast.Assign):
+            names += [target.id for target in node.targets]
+    return names
+
+
+def imports(tree):
+    return [node for node in tree.body if isinstance(node, ast.ImportFrom)]
+
+
+def source_of(node):
+    return ROOT / (node.module.replace(".", "/") + ".py")
+
+
 class Language(unittest.TestCase):
     def test_files_and_signs(self):
         self.assertIn(PACKAGE / "__init__.py", files())
@@ -93,14 +111,66 @@ class Language(unittest.TestCase):
                     self.assertEqual(plain, (None, None, [], []), (path, node.name))
 
     def test_imports(self):
+        found = dict(trees())
+        for path, tree in found.items():
+            self.assertEqual(imports(tree), [node for node in ast.walk(tree) if isinstance(node, ast.ImportFrom)])
+            for node in imports(tree):
+                self.assertEqual(node.level, 0, path)
+                self.assertIn(source_of(node), found, path)
+                for name in node.names:
+                    self.assertIn(name.name, top_names(found[source_of(node)]), path)
+
+    def test_no_two_files_draw_from_one_another(self):
+        drawn = {path: {source_of(node) for node in imports(tree)} for path, tree in trees()}
+        while drawn:
+            free = [path for path, sources in drawn.items() if not sources & set(drawn)]
+            self.assertNotEqual(free, [], drawn)
+            for path in free:
+                drawn.pop(path)
+
+    def test_the_top_of_a_file(self):
+        for path, tree in trees():
+            names = top_names(tree) + [name.asname or name.name for node in imports(tree) for name in node.names]
+            self.assertEqual(sorted(names), sorted(set(names)), path)
+            for node in tree.body:
+                self.assertIsInstance(node, (ast.Expr, ast.ImportFrom, ast.Assign, ast.FunctionDef, ast.ClassDef), path)
+                if isinstance(node, ast.Expr):
+                    self.assertIsInstance(node.value, ast.Constant, path)
+                if isinstance(node, ast.Assign):
+                    ast.literal_eval(node.value)
+
+    def test_locals_are_called_like_nothing_else(self):
+        for path, tree in trees():
+            taken = {name.name for node in imports(tree) for name in node.names} | BUILTINS | set(dir(builtins))
+            taken |= {node.name for node in tree.body if isinstance(node, ast.ClassDef)}
+            for node in ast.walk(tree):
+                if isinstance(node, ast.FunctionDef):
+                    stored = {part.arg for part in ast.walk(node) if isinstance(part, ast.arg)}
+                    stored |= {
+                        part.id for part in ast.walk(node)
+                        if isinstance(part, ast.Name) and isinstance(part.ctx, ast.Store)
+                    }
+                    self.assertEqual(stored & taken, set(), (path, node.name))
+
+    def test_values_of_objects(self):
+        methods, values = [], set()
         for path, tree in trees():
             for node in ast.walk(tree):
-                if isinstance(node, ast.ImportFrom):
-                    self.assertEqual(node.level, 0, path)
-                    source = ROOT / (node.module.replace(".", "/") + ".py")
-                    self.assertIn(source, files(), path)
-                    defined = {name.asname or name.name for name in node.names}
-                    self.assertNotIn("*", defined, path)
+                if isinstance(node, ast.ClassDef):
+                    own = [part.name for part in node.body if isinstance(part, ast.FunctionDef)]
+                    self.assertEqual(len(own), len(set(own)), (path, node.name))
+                    methods += own
+                if isinstance(node, ast.Attribute) and isinstance(node.ctx, ast.Store):
+                    values.add(node.attr)
+        self.assertEqual(values & set(methods), set())
+        self.assertEqual(values & METHODS, set())
+
+    def test_is_stands_beside_none_alone(self):
+        for path, tree in trees():
+            for node in ast.walk(tree):
+                if isinstance(node, ast.Compare) and any(isinstance(op, (ast.Is, ast.IsNot)) for op in node.ops):
+                    plain = [side.value for side in node.comparators if isinstance(side, ast.Constant)]
+                    self.assertEqual(plain, [None], path)
 
     def test_names_and_methods(self):
         own_methods = set()
@@ -111,6 +181,8 @@ class Language(unittest.TestCase):
         for path, tree in trees():
             bound = bound_names(tree)
             self.assertEqual(bound & BUILTINS, set(), path)
+            for name in bound - {"__init__"}:
+                self.assertRegex(name, r"^[A-Za-z][A-Za-z0-9_]*$", path)
             for node in ast.walk(tree):
                 if isinstance(node, ast.Name):
                     self.assertIn(node.id, bound | BUILTINS, path)
